@@ -9,8 +9,8 @@ import (
 	"ripple/ripple"
 )
 
-// grammar is the form of a query, written apart from the program: by each word
-// the ways to write it. A word that is no key stands for itself, or, as x-y,
+// grammar is the form of a query, of a batch and of a table's types, written
+// apart from the program: by each word the ways to write it. A word that is no key stands for itself, or, as x-y,
 // for one byte from x to y.
 var grammar = map[string][]string{
 	"query": {
@@ -35,6 +35,15 @@ var grammar = map[string][]string{
 	"list3":   {"0-9", "0-9 , list2"},
 	"list2":   {"0-9", "0-9 , list1"},
 	"list1":   {"0-9"},
+
+	"batch":   {"", "changes"},
+	"changes": {"change", "change ; changes"},
+	"change":  {"+ word ( values )", "- word ( values )"},
+	"values":  {"value", "value , values"},
+	"value":   {"number", "word"},
+
+	"types": {"type", "type type", "type type type", "type type type type"},
+	"type":  {"i", "t"},
 }
 
 // open tells what may come next, where rest is still to be written: each entry
@@ -67,6 +76,16 @@ func step(ahead map[string]int, b byte) map[string]int {
 		}
 	}
 	return next
+}
+
+// matches tells whether the grammar has the text as a word of this name.
+func matches(name, text string) bool {
+	ahead := map[string]int{}
+	open(name, ahead)
+	for at := range len(text) {
+		ahead = step(ahead, text[at])
+	}
+	return ahead[""] > 0
 }
 
 // slowCheck answers as Check must, by trying all that the grammar allows.
