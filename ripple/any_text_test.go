@@ -25,6 +25,8 @@ func newPair(t *testing.T) pair {
 		{name: "Feed", text: "+r(1,a);+r(1,a);+abcd(ab,-10);+n(5)"},
 		{name: "View", text: "r"},
 		{name: "View", text: "U(P[1,0](r),S[1<#5](abcd))"},
+		{name: "View", text: "J[0=0](P[0,0](r),J[1=1](r,D(r)))"},
+		{name: "View", text: "G[1][s0](U(r,P[1,0](abcd)))"},
 	} {
 		p.call(c)
 	}
@@ -58,7 +60,10 @@ func TestFeedNeighboursOfBatches(t *testing.T) {
 }
 
 func TestViewNeighboursOfQueries(t *testing.T) {
-	for _, query := range []string{"r", "abcd", "S[0<#-5](r)", "S[1=$ab](r)", "S[0!1](abcd)", "P[1,0](r)", "U(r,P[1,0](abcd))"} {
+	for _, query := range []string{
+		"r", "abcd", "S[0<#-5](r)", "S[1=$ab](r)", "S[0!1](abcd)", "P[1,0](r)", "U(r,P[1,0](abcd))",
+		"J[0=0](r,n)", "J[1=0](r,abcd)", "J[0=0](n,J[0=0](n,n))", "D(r)", "G[][n](r)", "G[0,1][s0](r)", "G[0][s1](abcd)", "D(G[][s0](J[0=0](n,r)))",
+	} {
 		p := newPair(t)
 		neighbours(query, func(text string) {
 			if len(p.slow.views) == 6 {
@@ -82,6 +87,8 @@ func TestEveryByteAtEveryPlace(t *testing.T) {
 		{name: "Table", text: "ab", types: "it"},
 		{name: "View", text: "S[0=#-5](r)"},
 		{name: "View", text: "U(r,S[1!$a](r))"},
+		{name: "View", text: "G[0,1][s2](J[1=1](r,r))"},
+		{name: "View", text: "D(G[][n](r))"},
 		{name: "Feed", text: "+r(-1,ab);-n(5)"},
 	} {
 		for at := range len(x.text) {
@@ -125,15 +132,16 @@ func FuzzFeed(f *testing.F) {
 		p := newPair(t)
 		for _, batch := range []string{first, second} {
 			p.call(call{name: "Feed", text: batch})
-			p.call(call{name: "Show", view: 1})
+			for n := range p.slow.views {
+				p.call(call{name: "Show", view: n})
+			}
 		}
 	})
 }
 
 func FuzzView(f *testing.F) {
 	for seed := range uint64(20) {
-		query, _ := newChooser(seed).query(3)
-		f.Add(query)
+		f.Add(newChooser(seed).query())
 	}
 	f.Add("U(P[1,0](r),abcd)")
 	f.Add("S[0!1](P[0,0](r))")
@@ -141,6 +149,6 @@ func FuzzView(f *testing.F) {
 		p := newPair(t)
 		p.call(call{name: "View", text: query})
 		p.call(call{name: "Feed", text: "+r(10,zzzz);-abcd(ab,-10);-r(1,a)"})
-		p.call(call{name: "Show", view: 2})
+		p.call(call{name: "Show", view: len(p.slow.views) - 1})
 	})
 }

@@ -4,48 +4,40 @@ import (
 	"maps"
 	"slices"
 	"strconv"
-	"strings"
 )
 
-// entry is a row and how many times it is there.
-type entry struct {
-	row   row
-	times int64
-}
-
-// bag is a bag, or a change of one, by its rows as they are written. No entry
-// is there 0 times, so that a bag without entries is one that says nothing.
-type bag map[string]entry
+// bag is a bag, or a change of one: how many times it has each row. No row is
+// there 0 times, so that a bag without rows is one that says nothing.
+type bag map[row]int64
 
 func (b bag) add(r row, times int64) {
-	key := r.written()
-	now := b[key].times + times
+	now := b[r] + times
 	if now == 0 {
-		delete(b, key)
+		delete(b, r)
 		return
 	}
-	b[key] = entry{r, now}
+	b[r] = now
 }
 
 func (b bag) addAll(change bag) {
-	for _, e := range change {
-		b.add(e.row, e.times)
+	for r, times := range change {
+		b.add(r, times)
 	}
 }
 
 // rows tells how many rows there are, each as often as it is there.
 func (b bag) rows() int64 {
 	var n int64
-	for _, e := range b {
-		n += e.times
+	for _, times := range b {
+		n += times
 	}
 	return n
 }
 
 // covers tells whether no row would be there less than 0 times behind a change.
 func (b bag) covers(change bag) bool {
-	for key, e := range change {
-		if b[key].times+e.times < 0 {
+	for r, times := range change {
+		if b[r]+times < 0 {
 			return false
 		}
 	}
@@ -53,15 +45,14 @@ func (b bag) covers(change bag) bool {
 }
 
 func (b bag) written() string {
-	entries := slices.SortedFunc(maps.Values(b), func(x, y entry) int { return compareRows(x.row, y.row) })
-	var text strings.Builder
-	for i, e := range entries {
+	var text []byte
+	for i, r := range slices.SortedFunc(maps.Keys(b), compareRows) {
 		if i > 0 {
-			text.WriteByte(';')
+			text = append(text, ';')
 		}
-		text.WriteString(e.row.written())
-		text.WriteByte('*')
-		text.WriteString(strconv.FormatInt(e.times, 10))
+		text = r.appendTo(text)
+		text = append(text, '*')
+		text = strconv.AppendInt(text, b[r], 10)
 	}
-	return text.String()
+	return string(text)
 }

@@ -1,13 +1,17 @@
 package ripple_test
 
-import "testing"
+import (
+	"strings"
+	"testing"
+)
 
 type bagCase struct {
 	query, told string
 }
 
-// testBags holds each query's bag over one table r against what it must be,
-// both when the rows come ahead of the view and when they come behind it.
+// testBags holds each query's bag over one table r, to which rows come by the
+// batch, against what it must be: when the rows come ahead of the view, when
+// they come behind it, and when they come one by one. Then they go likewise.
 func testBags(t *testing.T, types, batch string, cases []bagCase) {
 	t.Helper()
 	for _, x := range cases {
@@ -18,7 +22,22 @@ func testBags(t *testing.T, types, batch string, cases []bagCase) {
 		c.view(x.query, 0, "")
 		c.feed(batch, x.told)
 		c.show(0, x.told)
+		c.feed(strings.ReplaceAll(batch, "+", "-"), gone(x.told))
+		c.show(0, "")
+		for _, sign := range []string{"+", "-"} {
+			for change := range strings.SplitSeq(batch, ";") {
+				if _, e := c.s.Feed(strings.Replace(change, "+", sign, 1)); e != ok {
+					t.Errorf("Feed of one change of %q = %d", batch, e)
+				}
+			}
+			c.show(0, map[string]string{"+": x.told}[sign])
+		}
 	}
+}
+
+// gone writes the change that takes all of a bag away.
+func gone(bag string) string {
+	return strings.ReplaceAll(bag, "*", "*-")
 }
 
 func TestBagOfAName(t *testing.T) {

@@ -2,9 +2,9 @@ package ripple
 
 // order is a change as a batch writes it: a row that comes to a table, or goes.
 type order struct {
-	table string
-	row   row
-	times int64
+	table  string
+	values []value // of the row, as many as stand there
+	times  int64
 }
 
 // batch reads the whole text as one batch, and tells whether it is one.
@@ -24,7 +24,7 @@ orders:
 			if !r.value(&v) {
 				return nil, false
 			}
-			o.row = append(o.row, v)
+			o.values = append(o.values, v)
 			if r.take(',') {
 				continue
 			}

@@ -34,7 +34,7 @@ type operand struct {
 // in tells what the operand is in a row.
 func (o operand) in(r row) value {
 	if o.isColumn {
-		return r[o.column]
+		return r.values[o.column]
 	}
 	return o.value
 }

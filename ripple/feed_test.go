@@ -3,6 +3,8 @@ package ripple_test
 import (
 	"strings"
 	"testing"
+
+	"ripple/ripple"
 )
 
 func TestFeedLong(t *testing.T) {
@@ -214,6 +216,41 @@ func TestFeedRefusedChangesNothing(t *testing.T) {
 		c.feed("", "|")
 	}
 	c.feed("-r(1,a);+r(2,b);"+several(21, "+q(3,c)"), "(1,a)*-1;(2,b)*1|(a)*-1;(b)*1;(c)*21")
+}
+
+// TestFeedRefusedChangesNoJDOrG: not even what they remember, as the batch
+// behind it tells.
+func TestFeedRefusedChangesNoJDOrG(t *testing.T) {
+	c := newCaller(t, "r:it", "s:ti")
+	c.view("J[1=0](r,s)", 0, "")
+	c.view("D(P[1](r))", 1, "")
+	c.view("G[1][s0](r)", 2, "")
+	c.view("G[][n](J[1=0](r,s))", 3, "")
+	c.view("J[0=0](r,r)", 4, "")
+	c.feed("+r(1,a);+r(1,a);+s(a,5);+s(a,5)", "(1,a,a,5)*4|(a)*1|(a,2)*1|(4)*1|(1,a,1,a)*4")
+	for _, x := range []struct {
+		batch string
+		want  ripple.Errno
+	}{
+		{"+r(2,b);-r(1,a);" + strings.Repeat("+s(a,5);", 40), errLong},
+		{"+r(2,b);-r(1,a);+s(a,5);", errForm},
+		{"+r(2,b);-r(1,a);+s(a,5);+x(1,a)", errTable},
+		{"+r(2,b);-r(1,a);+s(a,5);+s(5,a)", errType},
+		{"+r(2,b);-r(1,a);+s(a,5);-s(b,5)", errMinus},
+		{"-s(a,5);+r(2,b);-r(1,a);-r(1,a);-r(1,a)", errMinus},
+	} {
+		c.feedRefused(x.batch, x.want)
+		for n, shown := range []string{"(1,a,a,5)*4", "(a)*1", "(a,2)*1", "(4)*1", "(1,a,1,a)*4"} {
+			c.show(n, shown)
+		}
+		c.feed("", "||||")
+		c.feed("+r(1,a)", "(1,a,a,5)*2||(a,2)*-1;(a,3)*1|(4)*-1;(6)*1|(1,a,1,a)*5")
+		c.feed("-r(1,a)", "(1,a,a,5)*-2||(a,2)*1;(a,3)*-1|(4)*1;(6)*-1|(1,a,1,a)*-5")
+	}
+	c.feed(several(37, "+r(1,b)"), "|(b)*1|(b,37)*1||(1,a,1,b)*74;(1,b,1,a)*74;(1,b,1,b)*1369")
+	c.feedRefused("-r(1,a);"+several(21, "+s(b,5)"), errFull) // 61
+	c.feed("-r(1,a)", "(1,a,a,5)*-2||(a,1)*1;(a,2)*-1|(2)*1;(4)*-1|(1,a,1,a)*-3;(1,a,1,b)*-37;(1,b,1,a)*-37")
+	c.feed(several(20, "+s(b,5)"), "(1,b,b,5)*740|||(2)*-1;(742)*1|") // 60
 }
 
 func TestFeedOfTheEmptyBatch(t *testing.T) {

@@ -4,7 +4,7 @@ const (
 	maxName    = 4   // letters of a table's name
 	maxText    = 4   // letters of a text
 	maxDigits  = 4   // digits of a number
-	maxColumns = 6   // columns that are picked, or grouped by
+	maxColumns = 6   // columns of a query, also those that are picked or grouped by
 	maxWidth   = 4   // columns of a table
 	maxTables  = 4   // tables of a session
 	maxViews   = 6   // views of a session

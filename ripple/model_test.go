@@ -197,33 +197,79 @@ func (s *slowSession) typesOf(query string) string {
 	for _, input := range inputs {
 		types = append(types, s.typesOf(input))
 	}
-	switch head[0] {
-	case 'S':
-		operand := head[4 : len(head)-1]
-		one, other := pickLetters(types[0], head[2:3]), ""
-		switch operand[0] {
-		case '#':
-			other = "i"
-		case '$':
-			other = "t"
-		default:
-			other = pickLetters(types[0], operand)
-		}
-		if one != "" && one == other {
-			return types[0]
-		}
-		return ""
-	case 'P':
-		return pickLetters(types[0], strings.ReplaceAll(head[2:len(head)-1], ",", ""))
-	case 'U':
-		if types[0] == types[1] {
-			return types[0]
-		}
-		return ""
-	case 'J', 'D', 'G': // not typed yet
+	if slices.Contains(types, "") {
 		return ""
 	}
-	return s.types[head]
+	typesOfKind := map[byte]func(head string, types []string) string{'S': typesOfS, 'P': typesOfP, 'J': typesOfJ, 'U': typesOfU, 'D': typesOfD, 'G': typesOfG}[head[0]]
+	if typesOfKind == nil {
+		return s.types[head]
+	}
+	if of := typesOfKind(head, types); len(of) <= 6 {
+		return of
+	}
+	return ""
+}
+
+func typesOfS(head string, types []string) string {
+	operand := head[4 : len(head)-1]
+	one, other := pickLetters(types[0], head[2:3]), ""
+	switch operand[0] {
+	case '#':
+		other = "i"
+	case '$':
+		other = "t"
+	default:
+		other = pickLetters(types[0], operand)
+	}
+	if one != "" && one == other {
+		return types[0]
+	}
+	return ""
+}
+
+func typesOfP(head string, types []string) string {
+	return pickLetters(types[0], digitsIn(head))
+}
+
+func typesOfJ(head string, types []string) string {
+	one, other := pickLetters(types[0], head[2:3]), pickLetters(types[1], head[4:5])
+	if one != "" && one == other {
+		return types[0] + types[1]
+	}
+	return ""
+}
+
+func typesOfU(_ string, types []string) string {
+	if types[0] == types[1] {
+		return types[0]
+	}
+	return ""
+}
+
+func typesOfD(_ string, types []string) string {
+	return types[0]
+}
+
+func typesOfG(head string, types []string) string {
+	keys, fold, _ := strings.Cut(head, "][")
+	picked := pickLetters(types[0], digitsIn(keys))
+	if digitsIn(keys) != "" && picked == "" {
+		return ""
+	}
+	if fold[0] == 's' && pickLetters(types[0], digitsIn(fold)) != "i" {
+		return ""
+	}
+	return picked + "i"
+}
+
+// digitsIn gives the digits of a text without what stands between them.
+func digitsIn(text string) string {
+	return strings.Map(func(r rune) rune {
+		if '0' <= r && r <= '9' {
+			return r
+		}
+		return -1
+	}, text)
 }
 
 func (s *slowSession) bagOf(query string) times {
@@ -238,19 +284,52 @@ func (s *slowSession) bagOf(query string) times {
 		}
 	case 'P':
 		for row, n := range s.bagOf(inputs[0]) {
-			var picked []string
-			for digit := range strings.SplitSeq(head[2:len(head)-1], ",") {
-				picked = append(picked, valueAt(row, digit))
-			}
-			bag["("+strings.Join(picked, ",")+")"] += n
+			bag[rowOf(pickValues(row, digitsIn(head)))] += n
 		}
+	case 'J':
+		right := s.bagOf(inputs[1])
+		for one, n := range s.bagOf(inputs[0]) {
+			for other, m := range right {
+				if valueAt(one, head[2:3]) == valueAt(other, head[4:5]) {
+					bag[rowOf(slices.Concat(valuesOf(one), valuesOf(other)))] += n * m
+				}
+			}
+		}
+	case 'D':
+		for row := range s.bagOf(inputs[0]) {
+			bag[row] = 1
+		}
+	case 'G':
+		return groups(head, s.bagOf(inputs[0]))
 	case 'U':
 		bag.add(s.bagOf(inputs[0]), 1)
 		bag.add(s.bagOf(inputs[1]), 1)
 	default:
 		bag.add(s.rows[head], 1)
 	}
+	maps.DeleteFunc(bag, func(_ string, n int) bool { return n == 0 })
 	return bag
+}
+
+func groups(head string, rows times) times {
+	keys, fold, _ := strings.Cut(head, "][")
+	numbers := times{} // by the values of the group, each with a comma behind it
+	for row, n := range rows {
+		group := ""
+		for _, value := range pickValues(row, digitsIn(keys)) {
+			group += value + ","
+		}
+		if fold[0] == 's' {
+			summed, _ := strconv.Atoi(valueAt(row, digitsIn(fold)))
+			n *= summed
+		}
+		numbers[group] += n
+	}
+	told := times{}
+	for group, number := range numbers {
+		told["("+group+strconv.Itoa(number)+")"] = 1
+	}
+	return told
 }
 
 func chosen(row, head string) bool {
@@ -300,6 +379,18 @@ func valuesOf(row string) []string {
 
 func valueAt(row, digit string) string {
 	return valuesOf(row)[digit[0]-'0']
+}
+
+func pickValues(row, digits string) []string {
+	var picked []string
+	for i := range len(digits) {
+		picked = append(picked, valueAt(row, digits[i:i+1]))
+	}
+	return picked
+}
+
+func rowOf(values []string) string {
+	return "(" + strings.Join(values, ",") + ")"
 }
 
 func typesOfRow(row string) string {

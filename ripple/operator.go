@@ -1,5 +1,7 @@
 package ripple
 
+import "maps"
+
 // taker is whatever is given changes. It neither changes nor keeps the bag.
 type taker interface {
 	take(change bag)
@@ -34,7 +36,8 @@ type memory struct {
 
 func (m *memory) remember(change bag) {
 	if m.held == nil {
-		m.held = bag{}
+		m.held = maps.Clone(change)
+		return
 	}
 	m.held.addAll(change)
 }
@@ -54,9 +57,9 @@ type selection struct {
 
 func (s *selection) take(change bag) {
 	chosen := bag{}
-	for _, e := range change {
-		if s.compare.holds(s.left.in(e.row), s.right.in(e.row)) {
-			chosen.add(e.row, e.times)
+	for r, times := range change {
+		if s.compare.holds(s.left.in(r), s.right.in(r)) {
+			chosen.add(r, times)
 		}
 	}
 	s.give(chosen)
@@ -70,8 +73,8 @@ type picking struct {
 
 func (p *picking) take(change bag) {
 	picked := bag{}
-	for _, e := range change {
-		picked.add(pick(e.row, p.columns), e.times)
+	for r, times := range change {
+		picked.add(r.pick(p.columns), times)
 	}
 	p.give(picked)
 }

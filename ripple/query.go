@@ -83,7 +83,7 @@ func (r *reader) head(p *part) bool {
 	case kindDistinct:
 		return r.take('D')
 	case kindGroup:
-		return r.take('G') && r.take('[') && (r.take(']') || r.columns(&p.columns)) && r.fold()
+		return r.take('G') && r.take('[') && (r.take(']') || r.columns(&p.columns)) && r.take('[') && r.weight(&p.weight) && r.take(']')
 	}
 	return false
 }
@@ -127,14 +127,12 @@ func (r *reader) operandColumn(o *operand) bool {
 	return r.column(&o.column)
 }
 
-// fold reads what is told of a group: how many rows, or a column's sum.
-func (r *reader) fold() bool {
-	if !r.take('[') {
-		return false
-	}
+// weight reads what a row adds to the number of its group: one, or what it has
+// in a column.
+func (r *reader) weight(o *operand) bool {
 	if r.take('s') {
-		var summed int
-		return r.column(&summed) && r.take(']')
+		return r.operandColumn(o)
 	}
-	return r.take('n') && r.take(']')
+	o.value = numberOf(1)
+	return r.take('n')
 }

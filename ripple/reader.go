@@ -35,8 +35,10 @@ func (r *reader) word(w *string, most int) bool {
 
 // textValue reads a text.
 func (r *reader) textValue(v *value) bool {
-	v.kind = valueText
-	return r.word(&v.text, maxText)
+	var letters string
+	isText := r.word(&letters, maxText)
+	*v = textOf(letters)
+	return isText
 }
 
 // numberValue reads a number.
@@ -46,7 +48,7 @@ func (r *reader) numberValue(v *value) bool {
 		return false
 	}
 	n, err := strconv.ParseInt(r.text[from:r.at], 10, 64)
-	v.kind, v.number = valueNumber, n
+	*v = numberOf(n)
 	return err == nil
 }
 

@@ -101,24 +101,32 @@ func several(n int, change string) string {
 	return strings.TrimSuffix(strings.Repeat(change+";", n), ";")
 }
 
-// TestExamplesOfASession: those of the document's examples that have neither J
-// nor D nor G.
+// TestExamplesOfASession: the document's examples, but for those of Check.
 func TestExamplesOfASession(t *testing.T) {
 	c := newCaller(t, "r:it")
 	c.view("r", 0, "")
 	c.view("S[0<#5](r)", 1, "")
+	c.view("G[1][s0](r)", 2, "")
 	c.viewRefused("x", errTable)
 	c.viewRefused("S[0=1](r)", errType)
 	c.viewRefused("P[2](r)", errType)
-	c.feed("+r(1,ab);+r(1,ab);+r(7,b)", "(1,ab)*2;(7,b)*1|(1,ab)*2")
-	c.feed("-r(1,ab);+r(3,b)", "(1,ab)*-1;(3,b)*1|(1,ab)*-1;(3,b)*1")
+	c.feed("+r(1,ab);+r(1,ab);+r(7,b)", "(1,ab)*2;(7,b)*1|(1,ab)*2|(ab,2)*1;(b,7)*1")
+	c.feed("-r(1,ab);+r(3,b)", "(1,ab)*-1;(3,b)*1|(1,ab)*-1;(3,b)*1|(ab,1)*1;(ab,2)*-1;(b,7)*-1;(b,10)*1")
+	c.show(2, "(ab,1)*1;(b,10)*1")
 	c.feedRefused("-r(9,b)", errMinus)
-	c.feed("-r(9,b);+r(9,b)", "|")
+	c.feed("-r(9,b);+r(9,b)", "||")
 	c.feedRefused("+r(1)", errType)
 	c.feedRefused("+q(1)", errTable)
-	c.feed("", "|")
+	c.feed("", "||")
 
 	c = newCaller(t, "r:it", "s:ti")
 	c.feed("+r(1,a);+r(1,a);+r(2,b);+s(a,5);+s(a,5);+s(a,5)", "")
-	c.view("U(P[1](r),P[0](s))", 0, "(a)*5;(b)*1")
+	c.view("J[1=0](r,s)", 0, "(1,a,a,5)*6")
+	c.view("G[][n](J[1=0](r,s))", 1, "(6)*1")
+	c.view("D(P[1](r))", 2, "(a)*1;(b)*1")
+	c.view("U(P[1](r),P[0](s))", 3, "(a)*5;(b)*1")
+	c.view("G[0][n](U(P[1](r),P[0](s)))", 4, "(a,5)*1;(b,1)*1")
+	c.view("G[][n](r)", 5, "(3)*1")
+	c.feed("-r(1,a);-r(1,a);-r(2,b)", "(1,a,a,5)*-6|(6)*-1|(a)*-1;(b)*-1|(a)*-2;(b)*-1|(a,3)*1;(a,5)*-1;(b,1)*-1|(3)*-1")
+	c.show(5, "")
 }

@@ -81,7 +81,8 @@ func (ts tables) typesOf(query *part) ([]valueKind, bool) {
 		}
 		inputs = append(inputs, types)
 	}
-	return query.types(inputs)
+	types, typed := query.types(inputs)
+	return types, typed && len(types) <= maxColumns
 }
 
 // lead makes a typed query's operators and leads changes through them from the
@@ -93,10 +94,9 @@ func (ts tables) lead(query *part, to taker) {
 		deliver(t.held, to)
 		return
 	}
-	o := query.operator()
-	o.giveTo(to)
-	for _, input := range query.inputs {
-		ts.lead(input, o)
+	takers := query.lead(to)
+	for i, input := range query.inputs {
+		ts.lead(input, takers[i])
 	}
 }
 
@@ -108,7 +108,7 @@ func (ts tables) fit(orders []order) Errno {
 		}
 	}
 	for _, o := range orders {
-		if !o.row.is(ts[ts.find(o.table)].types) {
+		if !areOf(o.values, ts[ts.find(o.table)].types) {
 			return ErrType
 		}
 	}
@@ -122,7 +122,7 @@ func (ts tables) changes(orders []order) []bag {
 		changes[i] = bag{}
 	}
 	for _, o := range orders {
-		changes[ts.find(o.table)].add(o.row, o.times)
+		changes[ts.find(o.table)].add(row{}.and(o.values...), o.times)
 	}
 	return changes
 }

@@ -1,60 +1,55 @@
 package ripple
 
 import (
+	"bytes"
 	"cmp"
 	"slices"
 	"strconv"
-	"strings"
 )
 
-// valueKind tells numbers from texts; it is also the type of a column.
-type valueKind int
+// valueKind tells numbers from texts; it is also the type of a column. It is
+// small, for there may be many values.
+type valueKind int32
 
 const (
 	valueNumber valueKind = iota
 	valueText
 )
 
-// value is a number or a text. What its kind does not use is zero.
+// value is a number or a text. What its kind does not use is zero, so that
+// values may be held against each other by ==.
 type value struct {
 	kind   valueKind
-	number int64
-	text   string
+	text   [maxText]byte // zero behind the letters, so that bytes are compared as texts are
+	number int64         // rows, joins and queries are limited, so that no sum comes near its bounds
+}
+
+func numberOf(n int64) value {
+	return value{kind: valueNumber, number: n}
+}
+
+// textOf gives the text of at most maxText letters.
+func textOf(letters string) value {
+	v := value{kind: valueText}
+	copy(v.text[:], letters)
+	return v
 }
 
 func compareValues(a, b value) int {
-	return cmp.Or(cmp.Compare(a.kind, b.kind), cmp.Compare(a.number, b.number), strings.Compare(a.text, b.text))
+	if a.kind == valueText {
+		return bytes.Compare(a.text[:], b.text[:])
+	}
+	return cmp.Compare(a.number, b.number)
 }
 
-func (v value) written() string {
+func (v value) appendTo(text []byte) []byte {
 	if v.kind == valueText {
-		return v.text
+		return append(text, bytes.TrimRight(v.text[:], "\x00")...)
 	}
-	return strconv.FormatInt(v.number, 10)
+	return strconv.AppendInt(text, v.number, 10)
 }
 
-// row is never changed once it is made, so that bags may share it.
-type row []value
-
-func compareRows(a, b row) int {
-	return slices.CompareFunc(a, b, compareValues)
-}
-
-func (r row) written() string {
-	var text strings.Builder
-	for i, v := range r {
-		if i == 0 {
-			text.WriteByte('(')
-		} else {
-			text.WriteByte(',')
-		}
-		text.WriteString(v.written())
-	}
-	text.WriteByte(')')
-	return text.String()
-}
-
-// is tells whether the row has just these types.
-func (r row) is(types []valueKind) bool {
-	return slices.EqualFunc(r, types, func(v value, t valueKind) bool { return v.kind == t })
+// areOf tells whether values have just these types.
+func areOf(values []value, types []valueKind) bool {
+	return slices.EqualFunc(values, types, func(v value, t valueKind) bool { return v.kind == t })
 }

@@ -1,19 +1,19 @@
 package ripple
 
-// view is at the end of a query's operators: it remembers what they give.
+// view is at the end of a query's operators: it remembers what it has told.
 type view struct {
 	memory
-	untold memory // what has come since the view was last told of
+	untold memory // what has come since
 }
 
 func (v *view) take(change bag) {
-	v.remember(change)
 	v.untold.remember(change)
 }
 
 // tell tells what has changed since the last time.
 func (v *view) tell() string {
-	told := v.untold.held.written()
+	change := v.untold.held
 	v.untold = memory{}
-	return told
+	v.remember(change)
+	return change.written()
 }
